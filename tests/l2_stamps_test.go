@@ -664,8 +664,23 @@ func TestParseStampRefuses(t *testing.T) {
 	}
 }
 
+// changeOneByte checks a text, and it with each byte left out, replaced and put in at each place.
+func changeOneByte(text string, check func(string)) {
+	check(text)
+	for i := range len(text) {
+		check(text[:i] + text[i+1:])
+		for c := range 256 {
+			b := string([]byte{byte(c)})
+			check(text[:i] + b + text[i+1:])
+			check(text[:i] + b + text[i:])
+		}
+	}
+	for c := range 256 {
+		check(text + string([]byte{byte(c)}))
+	}
+}
+
 func TestParseStampTakesOnlyWhatStampTextWrites(t *testing.T) {
-	good := "12: 0.05 color 7 1858"
 	check := func(s string) {
 		got, ok := impl.ParseStamp(s)
 		text, fine := impl.StampText(got)
@@ -673,14 +688,7 @@ func TestParseStampTakesOnlyWhatStampTextWrites(t *testing.T) {
 			t.Fatalf("ParseStamp(%q) = %v, %v", s, got, ok)
 		}
 	}
-	for i := range len(good) {
-		check(good[:i] + good[i+1:])
-		for c := range 256 {
-			b := string([]byte{byte(c)})
-			check(good[:i] + b + good[i+1:])
-			check(good[:i] + b + good[i:])
-		}
-	}
+	changeOneByte("12: 0.05 color 7 1858", check)
 }
 
 // checkStampsRefuse checks that each function with a list of stamps fails.
